@@ -1,0 +1,76 @@
+"""Writes calls down as numbers, and runs them."""
+
+from textgrafts.history import History
+from textgrafts.reading import Reader
+from textgrafts.session import answer_next, answers
+
+
+def as_line(text):
+    """A line from a text, or from its bytes as they are."""
+    return [ord(sign) for sign in text] if isinstance(text, str) else list(text)
+
+
+def branch(number):
+    return [0, number]
+
+
+def write(number, lines):
+    row = []
+    for line in lines:
+        line = as_line(line)
+        row += [len(line)] + line
+    return [1, number, len(lines), len(row)] + row
+
+
+def delete(number, *positions):
+    row = [part for position in positions for part in position]
+    return [2, number, len(row)] + row
+
+
+def apply_change(number, change):
+    return [3, number, change]
+
+
+def merge(number, other):
+    return [4, number, other]
+
+
+def joined(calls):
+    return [number for call in calls for number in call]
+
+
+def split(answered):
+    """The answers, one list for each call."""
+    found = []
+    start = 0
+    while start < len(answered):
+        end = start + 1 + answered[start]
+        found.append(answered[start + 1:end])
+        start = end
+    return found
+
+
+def run(*calls):
+    """What the calls of one session are answered, one list for each."""
+    found = split(answers(joined(calls)))
+    assert len(found) == len(calls), found
+    return found
+
+
+def last(*calls):
+    """What the last of the calls is answered."""
+    return run(*calls)[-1]
+
+
+def history_after(*calls):
+    """What a session holds after the calls."""
+    history = History()
+    reader = Reader(joined(calls))
+    while not reader.is_done():
+        answer_next(history, reader)
+    return history
+
+
+def content_after(number, *calls):
+    """The content of a branch after the calls."""
+    return history_after(*calls).content(number)

@@ -1,0 +1,1 @@
+"""Graft: version control with commuting changes."""
