@@ -14,12 +14,18 @@ def branch(number):
     return [0, number]
 
 
-def write(number, lines):
+def in_a_row(texts):
+    """The lines as they lie in calls and answers, each behind its number of bytes."""
     row = []
-    for line in lines:
-        line = as_line(line)
+    for text in texts:
+        line = as_line(text)
         row += [len(line)] + line
-    return [1, number, len(lines), len(row)] + row
+    return row
+
+
+def write(number, texts):
+    row = in_a_row(texts)
+    return [1, number, len(texts), len(row)] + row
 
 
 def delete(number, *positions):
@@ -33,6 +39,41 @@ def apply_change(number, change):
 
 def merge(number, other):
     return [4, number, other]
+
+
+def revert(number, change):
+    return [5, number, change]
+
+
+def show(number):
+    return [6, number]
+
+
+def tell_lines(number):
+    return [7, number]
+
+
+def tell_change(number):
+    return [8, number]
+
+
+def shown(texts):
+    """What show answers when the lines are the text."""
+    return [len(texts)] + in_a_row(texts)
+
+
+def told_lines(positions, conflicts):
+    """What lines answers when the visible lines stand at the positions and the pairs are in conflict."""
+    pairs = [part for pair in conflicts for position in pair for part in position]
+    return [len(positions)] + joined(positions) + [len(conflicts)] + pairs
+
+
+def told_change(hunks, deleted, dependencies):
+    """What change answers; each hunk is the position before it, its lines, and the position after it."""
+    answer = [len(hunks)]
+    for before, texts, after in hunks:
+        answer += [*before, *after, len(texts)] + in_a_row(texts)
+    return answer + [len(deleted)] + joined(deleted) + [len(dependencies)] + dependencies
 
 
 def joined(calls):

@@ -24,6 +24,10 @@ class History:
         # Kept in increasing order, so that the order of adding leaves no trace.
         self.branches[branch] = sorted(self.branches[branch] + numbers)
 
+    def exclude(self, branch, change):
+        """Removes a change that the branch has."""
+        self.branches[branch] = [number for number in self.branches[branch] if number != change]
+
     def record(self, branch, change):
         """Numbers a new change, adds it to the branch and gives back its number."""
         number = len(self.changes)

@@ -7,6 +7,7 @@ changed, so that an error leaves the history as it was.
 from textgrafts.changes import Change
 from textgrafts.codes import CONFLICTS, DEPENDENCIES, LIMITS_EXCEEDED, NOTHING_CHANGES, NOT_THERE, TOO_MANY
 from textgrafts.differences import difference
+from textgrafts.writing import hunks_laid_down, lines_laid_down, pairs_laid_down, positions_laid_down
 
 MOST_BRANCHES = 5
 MOST_CHANGES = 12
@@ -78,3 +79,44 @@ def merge(history, branch, other):
     added = [number for number in history.branches[other] if number not in present]
     history.include(branch, added)
     return [len(added)]
+
+
+def revert(history, branch, change):
+    """Removes a change from the branch."""
+    present = history.branches[branch]
+    if change not in present:
+        return [NOTHING_CHANGES]
+    dependent = [number for number in present if change in history.changes[number].dependencies()]
+    if dependent:
+        return [DEPENDENCIES, len(dependent)] + dependent
+    history.exclude(branch, change)
+    return [len(history.branches[branch])]
+
+
+def show(history, branch):
+    """The text of the branch."""
+    content = history.content(branch)
+    conflicts = content.conflicts()
+    if conflicts:
+        return [CONFLICTS, len(conflicts)]
+    text = content.text()
+    return [len(text)] + lines_laid_down(text)
+
+
+def tell_lines(history, branch):
+    """The visible lines of the branch and the pairs in conflict, by their positions."""
+    content = history.content(branch)
+    conflicts = content.conflicts()
+    visible = [len(content.ordered)] + positions_laid_down(content.ordered)
+    return visible + [len(conflicts)] + pairs_laid_down(conflicts)
+
+
+def tell_change(history, change):
+    """What the change inserts, what it deletes, and on which changes it depends."""
+    if not history.has_change(change):
+        return [NOT_THERE]
+    told = history.changes[change]
+    inserted = [len(told.hunks)] + hunks_laid_down(told.hunks)
+    deleted = [len(told.deleted)] + positions_laid_down(told.deleted)
+    dependencies = told.dependencies()
+    return inserted + deleted + [len(dependencies)] + dependencies

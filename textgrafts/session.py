@@ -2,7 +2,8 @@
 
 from textgrafts.codes import NO_BRANCH
 from textgrafts.history import History
-from textgrafts.operations import apply_change, create_branch, delete, merge, write
+from textgrafts.operations import apply_change, create_branch, delete, merge, revert, show
+from textgrafts.operations import tell_change, tell_lines, write
 from textgrafts.reading import Reader, lines_in, positions_in
 
 # For each call: how many numbers it has, how many of these, from the first on,
@@ -13,6 +14,10 @@ FORMS = {
     2: (1, 1, True),
     3: (2, 1, False),
     4: (2, 2, False),
+    5: (2, 1, False),
+    6: (1, 1, False),
+    7: (1, 1, False),
+    8: (1, 0, False),
 }
 
 
@@ -27,7 +32,15 @@ def carry_out(history, call, numbers, row):
         return delete(history, numbers[0], positions_in(row))
     if call == 3:
         return apply_change(history, numbers[0], numbers[1])
-    return merge(history, numbers[0], numbers[1])
+    if call == 4:
+        return merge(history, numbers[0], numbers[1])
+    if call == 5:
+        return revert(history, numbers[0], numbers[1])
+    if call == 6:
+        return show(history, numbers[0])
+    if call == 7:
+        return tell_lines(history, numbers[0])
+    return tell_change(history, numbers[0])
 
 
 def answer_next(history, reader):
